@@ -1,0 +1,1 @@
+"""Farebreak: journeys priced by parting them."""
