@@ -3,7 +3,22 @@
 import inspect
 import unittest
 
-from farebreak import journeys, tariff
+from farebreak import journeys, notes, partings, stretches, tariff
+
+FUNCTIONS = (
+    (tariff, "is_place", ("thing",)),
+    (tariff, "is_price", ("thing",)),
+    (journeys, "need_journey", ("places",)),
+    (stretches, "fault", ("tariff", "journey", "at", "to")),
+    (stretches, "held", ("tariff", "journey")),
+    (partings, "price_of", ("tariff", "journey", "cuts")),
+    (partings, "left", ("tariff", "journey")),
+    (partings, "parted", ("tariff", "journey")),
+    (partings, "priced", ("tariff", "journey")),
+    (notes, "bill", ("tariff", "journey")),
+    (notes, "lines_of", ("tariff",)),
+    (notes, "tariff_of", ("lines",)),
+)
 
 
 def arguments(thing):
@@ -24,9 +39,9 @@ def plain(*names):
 class InterfaceTest(unittest.TestCase):
 
     def test_functions_take_what_is_listed(self):
-        self.assertEqual(arguments(tariff.is_place), plain("thing"))
-        self.assertEqual(arguments(tariff.is_price), plain("thing"))
-        self.assertEqual(arguments(journeys.need_journey), plain("places"))
+        for module, name, listed in FUNCTIONS:
+            with self.subTest(name):
+                self.assertEqual(arguments(getattr(module, name)), plain(*listed))
 
     def test_tariff_takes_what_is_listed(self):
         self.assertEqual(arguments(tariff.Tariff), plain("rows"))
@@ -36,9 +51,9 @@ class InterfaceTest(unittest.TestCase):
         self.assertEqual(arguments(made.told), plain())
 
     def test_each_is_defined_in_its_own_file(self):
-        for thing in (tariff.is_place, tariff.is_price, tariff.Tariff):
-            self.assertEqual(thing.__module__, "farebreak.tariff")
-        self.assertEqual(journeys.need_journey.__module__, "farebreak.journeys")
+        for module, name, _ in FUNCTIONS + ((tariff, "Tariff", ()),):
+            with self.subTest(name):
+                self.assertEqual(getattr(module, name).__module__, module.__name__)
 
     def test_methods_stand_in_the_class_itself(self):
         for name in ("put", "price", "told"):
@@ -51,6 +66,18 @@ class InterfaceTest(unittest.TestCase):
         self.assertIs(tariff.is_place(thing="ost"), True)
         self.assertIs(tariff.is_price(thing=3), True)
         self.assertEqual(journeys.need_journey(places=["ost", "west"]), ["ost", "west"])
+
+    def test_arguments_of_the_other_functions_can_be_told_by_name(self):
+        asked = {"tariff": tariff.Tariff([("ost", "west", 3)]), "journey": ["ost", "west"]}
+        self.assertIsNone(stretches.fault(at=0, to=1, **asked))
+        self.assertEqual(stretches.held(**asked), [[1], []])
+        self.assertEqual(partings.price_of(cuts=[0, 1], **asked), 3)
+        self.assertEqual(partings.left(**asked), [3, 0])
+        self.assertEqual(partings.parted(**asked), [0, 1])
+        self.assertEqual(partings.priced(**asked), (3, [0, 1]))
+        self.assertEqual(notes.bill(**asked), ["ost west 3", "all 3"])
+        self.assertEqual(notes.lines_of(tariff=asked["tariff"]), ["ost west 3"])
+        self.assertEqual(notes.tariff_of(lines=["ost west 3"]).told(), [("ost", "west", 3)])
 
 
 if __name__ == "__main__":

@@ -2,10 +2,10 @@
 
 import unittest
 
-from farebreak.errors import BadPlace, BadPrice, FareError, TooMany, TwiceTold
+from farebreak.errors import BadPlace, BadPrice, TooMany, TwiceTold
 from farebreak.tariff import Tariff, is_place, is_price
+from tests.helpers import TOP, Refusing, many_rows
 
-TOP = 1000000000000
 NO_PLACES = (
     "", "a" * 13, "a" * 14, "a" * 500,
     "A", "Z", "Ost", "osT", "OST",
@@ -16,23 +16,6 @@ NO_PLACES = (
 )
 NO_PRICES = (TOP + 1, TOP + 2, 10 ** 13, 10 ** 40, -1, -2, -TOP, True, False, None,
              "", "0", "1", "250", "a")
-
-
-def many_rows(count):
-    """That many rows, each of another way and of a price of its own."""
-    places = ["a" + chr(ord("a") + k) for k in range(20)]
-    ways = [(here, there) for here in places for there in places if here != there]
-    return [(here, there, 7 * k) for k, (here, there) in enumerate(ways[:count])]
-
-
-class Refusing(unittest.TestCase):
-
-    def assert_refused(self, kind, call, *things):
-        with self.assertRaises(kind) as caught:
-            call(*things)
-        self.assertIs(type(caught.exception), kind)
-        self.assertIsInstance(caught.exception, FareError)
-        self.assertIsInstance(caught.exception, ValueError)
 
 
 class PlaceTest(unittest.TestCase):
